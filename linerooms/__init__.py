@@ -1,0 +1,1 @@
+"""A line of machines with room between them, told exactly."""

@@ -1,0 +1,112 @@
+"""hour, empty (point 2)."""
+
+import random
+import unittest
+
+from tests.helper import GREATEST, Refusing, ask, last, line, lines_of, step
+
+
+class Hour(Refusing):
+    def test_one_machine(self):
+        told = ask(("begin", 5), ("hour", [1]), ("hour", [0]), ("hour", [1]), ("empty",))
+        self.assertEqual(told, [[0], [1, 1], [0, 0], [1, 1], [0]])
+
+    def test_a_piece_goes_one_machine_an_hour(self):
+        told = ask(*line([5, 5, 5], [1, 1]), *[("hour", [1, 1, 1])] * 4)
+        self.assertEqual(told[3:], [[0, 1, 0, 0], [0, 1, 1, 0], [1, 1, 1, 1], [1, 1, 1, 1]])
+
+    def test_the_room_counts_as_at_the_hours_beginning(self):
+        told = ask(*line([5, 5], [2]), ("hour", [1, 1]), ("hour", [0, 1]), ("hour", [0, 1]))
+        self.assertEqual(told[2:], [[0, 1, 0], [1, 0, 1], [0, 0, 0]])
+
+    def test_none_up(self):
+        calls = line([5, 5, 5], [2, 2]) + [("hour", [1, 0, 0])] * 2 + [("hour", [0, 1, 0])]
+        told = ask(*calls, *[("hour", [0, 0, 0])] * 3, ("empty",))
+        self.assertEqual(told[len(calls):], [[0, 0, 0, 0]] * 3 + [[2]])
+
+    def test_a_full_room_while_the_next_one_works(self):
+        calls = line([5, 5], [1]) + [("hour", [1, 0])]
+        self.assertEqual(last(calls, ("hour", [1, 0])), [0, 0, 0])
+        self.assertEqual(last(calls, ("hour", [1, 1])), [1, 1, 1])
+        self.assertEqual(last(calls, ("hour", [1, 1]), ("empty",)), [1])
+        self.assertEqual(last(calls, ("hour", [0, 1]), ("empty",)), [0])
+
+    def test_all_rooms_full(self):
+        calls = line([5, 5, 5, 5], [1, 1, 1])
+        for machine in (0, 1, 2, 0, 1, 0):
+            calls = calls + [("hour", [int(other == machine) for other in range(4)])]
+        self.assertEqual(last(calls, ("empty",)), [3])
+        self.assertEqual(last(calls, ("hour", [1, 1, 1, 1])), [1, 1, 1, 1, 1])
+        self.assertEqual(last(calls, ("hour", [1, 1, 1, 0])), [0, 0, 0, 0, 0])
+        self.assertEqual(last(calls, ("hour", [1, 1, 0, 1])), [1, 0, 0, 0, 1])
+        self.assertEqual(last(calls, ("hour", [1, 0, 1, 1])), [1, 0, 0, 1, 1])
+
+    def test_a_full_room_and_a_next_one_that_is_up_but_blocked(self):
+        calls = line([5, 5, 5], [1, 1]) + [("hour", [1, 0, 0]), ("hour", [0, 1, 0]), ("hour", [1, 0, 0])]
+        self.assertEqual(last(calls, ("hour", [1, 1, 0])), [0, 0, 0, 0])
+        self.assertEqual(last(calls, ("hour", [1, 1, 1])), [1, 1, 1, 1])
+
+    def test_many_hours_on_every_line(self):
+        chosen = random.Random(1)
+        for count in (1, 2, 3, 4):
+            for holds in lines_of(count):
+                hours = [[chosen.choice((0, 1, 1)) for machine in range(count)] for hour in range(120)]
+                told = ask(*line([5] * count, holds), *[("hour", ups) for ups in hours], ("empty",))
+                filling = (0,) * (count - 1)
+                for ups, one in zip(hours, told[count:]):
+                    works, filling = step(ups, holds, filling)
+                    self.assertEqual(one, [works[-1]] + works, (holds, ups))
+                self.assertEqual(told[-1], [sum(filling)])
+
+    def test_pieces_are_not_lost(self):
+        chosen = random.Random(2)
+        for holds in ([8], [8, 2], [2, 2, 2], [1, 3, 2]):
+            count = len(holds) + 1
+            hours = [("hour", [chosen.choice((0, 1)) for machine in range(count)]) for hour in range(300)]
+            told = ask(*line([5] * count, holds), *hours, ("empty",))
+            put_in = sum(one[1] for one in told[count:-1])
+            come_out = sum(one[0] for one in told[count:-1])
+            self.assertEqual(told[-1], [put_in - come_out])
+
+    def test_chances_do_not_matter_for_an_hour(self):
+        for chance in range(1, 10):
+            self.assertEqual(last(line([chance, chance], [1]), ("hour", [1, 1]), ("hour", [1, 1])), [1, 1, 1])
+
+    def test_not_one_for_each(self):
+        filled = line([3, 5, 7], [3, 2]) + [("hour", [1, 0, 0])] * 2
+        for ups in ([], [1], [1, 1], [0, 0], [1, 1, 1, 1], [0] * 4, [1] * 6):
+            self.refused(filled, ("hour", ups), -22, 3)
+        for ups in ([], [1, 1], [0] * 6):
+            self.refused([("begin", 3)], ("hour", ups), -22, 1)
+
+    def test_one_above_1(self):
+        filled = line([3, 5, 7], [3, 2]) + [("hour", [1, 0, 0])] * 2
+        for ups in ([2, 1, 1], [1, 2, 1], [1, 1, 2], [0, 0, GREATEST], [GREATEST] * 3, [2, 2], [2] * 6):
+            self.refused(filled, ("hour", ups), -22, 3)
+        self.refused([("begin", 3)], ("hour", [2]), -22, 1)
+
+
+class Empty(unittest.TestCase):
+    def test_answers_how_many_lay_there(self):
+        calls = line([3, 5, 7], [3, 2]) + [("hour", [1, 0, 0])] * 3 + [("hour", [0, 1, 0])]
+        self.assertEqual(ask(*calls, ("empty",), ("empty",))[-2:], [[3], [0]])
+
+    def test_all_rooms_are_empty(self):
+        calls = line([3, 5, 7], [3, 2]) + [("hour", [1, 1, 0])] * 4 + [("empty",)]
+        self.assertEqual(last(calls, ("hour", [0, 1, 1])), [0, 0, 0, 0])
+        self.assertEqual(last(calls, ("hour", [1, 1, 1])), [0, 1, 0, 0])
+
+    def test_one_machine_has_no_room(self):
+        self.assertEqual(ask(("begin", 5), ("hour", [1]), ("empty",)), [[0], [1, 1], [0]])
+
+    def test_machines_and_rooms_stay(self):
+        told = ask(*line([3, 5], [4]), ("hour", [1, 0]), ("empty",), ("chance", 1, 1), ("room", 0, 1), ("drop",))
+        self.assertEqual(told[3:], [[1], [5], [4], [1]])
+
+    def test_a_full_greatest_line(self):
+        calls = line([5, 5], [8]) + [("hour", [1, 0])] * 9
+        self.assertEqual(last(calls, ("empty",)), [8])
+
+
+if __name__ == "__main__":
+    unittest.main()
