@@ -2,8 +2,57 @@
 
 import random
 import unittest
+from itertools import product
 
 from tests.helper import GREATEST, Refusing, ask, last, line, lines_of, step
+
+
+def come_to(filling):
+    """Hours, one machine up in each, that bring empty rooms to the filling: the last room is filled first."""
+    hours = []
+    for room in reversed(range(len(filling))):
+        for machine in list(range(room + 1)) * filling[room]:
+            hours.append(("hour", [int(other == machine) for other in range(len(filling) + 1)]))
+    return hours
+
+
+def drained(count, held):
+    """Hours that let each room in turn run dry, the last one first, past all it may hold: its pieces come out."""
+    hours = []
+    for room in reversed(range(count - 1)):
+        for machine in list(range(room + 1, count)) * (held + 1):
+            hours.append(("hour", [int(other == machine) for other in range(count)]))
+    return hours
+
+
+class EveryFilling(unittest.TestCase):
+    """Each filling that rooms have place for is come to, and no other one ever is."""
+
+    def rooms_after(self, calls, count, held):
+        """What lies in each room behind these calls, counted by what comes out of them."""
+        told = ask(*calls, *drained(count, held), ("empty",))
+        self.assertEqual(told.pop(), [0])
+        found = []
+        at = len(calls)
+        for room in reversed(range(count - 1)):
+            size = (count - 1 - room) * (held + 1)
+            found.insert(0, sum(one[0] for one in told[at:at + size]))
+            at += size
+        return tuple(found)
+
+    def test_each_hour_from_each_filling(self):
+        for holds in ((), (1,), (3,), (8,), (1, 1), (3, 2), (1, 1, 1), (2, 1, 2), (8, 2), (2, 2, 2)):
+            count = len(holds) + 1
+            made = line([5] * count, holds)
+            for filling in product(*[range(hold + 1) for hold in holds]):
+                calls = made + come_to(filling)
+                self.assertEqual(self.rooms_after(calls, count, max(holds, default=0)), filling)
+                for ups in product((0, 1), repeat=count):
+                    works, after = step(ups, holds, filling)
+                    hour = ("hour", list(ups))
+                    self.assertEqual(last(calls, hour), [works[-1]] + works, (holds, filling, ups))
+                    self.assertEqual(self.rooms_after(calls + [hour], count, max(holds, default=0)), after)
+                    self.assertTrue(all(0 <= lies <= hold for lies, hold in zip(after, holds)))
 
 
 class Hour(Refusing):
