@@ -1,4 +1,7 @@
-"""What happens in one hour."""
+"""What happens in one hour, and what may happen in it by all chances."""
+
+from linerooms.choices import every_choice
+from linerooms.ratio import product
 
 
 def has_piece(machine, filling):
@@ -21,3 +24,21 @@ def who_works(ups, holds, filling):
 def filling_after(works, filling):
     """The filling at the hour's end, when those machines have worked."""
     return [filling[room] + works[room] - works[room + 1] for room in range(len(filling))]
+
+
+def hour_cases(chances):
+    """How many equal cases an hour has: 10 for each machine, multiplied."""
+    return product([10 for chance in chances])
+
+
+def weight_of(ups, chances):
+    """How many of an hour's equal cases have just these machines up."""
+    return product([chance if up == 1 else 10 - chance for up, chance in zip(ups, chances)])
+
+
+def likely_hours(chances, holds, filling):
+    """All hours that may follow the filling: ups, who works then, and the weight."""
+    hours = []
+    for ups in every_choice([1 for chance in chances]):
+        hours.append((ups, who_works(ups, holds, filling), weight_of(ups, chances)))
+    return hours

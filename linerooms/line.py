@@ -28,7 +28,9 @@ FORMS = (
     ("state", 0, False),
 )
 
-LONG_RUN_CALLS = ("out", "rate", "starved", "blocked")
+BUILDING_CALLS = ("machine", "drop", "chance", "room", "turn", "state")
+HOUR_CALLS = ("hour", "empty", "now", "soon")
+LONG_RUN_CALLS = ("out", "rate", "starved", "blocked", "mean", "full", "long")
 
 
 def split_calls(calls):
@@ -47,8 +49,8 @@ def split_calls(calls):
     return found
 
 
-def answer_of_line(machines, name, numbers):
-    """The answer to a call that changes the line of machines, or lets an hour go by."""
+def answer_of_building(machines, name, numbers):
+    """The answer to a call that changes the machines and rooms, or asks which they are."""
     if name == "machine":
         return machines.machine(numbers[0], numbers[1])
     if name == "drop":
@@ -57,11 +59,20 @@ def answer_of_line(machines, name, numbers):
         return machines.chance(numbers[0], numbers[1])
     if name == "room":
         return machines.room(numbers[0], numbers[1])
+    if name == "turn":
+        return machines.turn()
+    return machines.state()
+
+
+def answer_of_hours(machines, name, numbers):
+    """The answer to a call on the pieces that lie in the rooms now, and on the next hours."""
     if name == "hour":
         return machines.hour(numbers)
     if name == "empty":
         return machines.empty()
-    raise NotImplementedError(name)
+    if name == "now":
+        return machines.now()
+    return machines.soon(numbers[0])
 
 
 def answer_of_long_run(machines, name, numbers):
@@ -72,7 +83,22 @@ def answer_of_long_run(machines, name, numbers):
         return machines.rate(numbers[0])
     if name == "starved":
         return machines.starved(numbers[0])
-    return machines.blocked(numbers[0])
+    if name == "blocked":
+        return machines.blocked(numbers[0])
+    if name == "mean":
+        return machines.mean(numbers[0])
+    if name == "full":
+        return machines.full(numbers[0])
+    return machines.long(numbers)
+
+
+def answer_of_change(machines, name, numbers):
+    """The answer to a call that asks what a change would bring."""
+    if name == "turned":
+        return machines.turned()
+    if name == "better":
+        return machines.better(numbers[0])
+    return machines.more(numbers[0])
 
 
 def answer(machines, name, numbers):
@@ -81,9 +107,13 @@ def answer(machines, name, numbers):
         return machines.begin(numbers[0])
     if not machines.is_begun():
         return [NOT_BEGUN]
+    if name in BUILDING_CALLS:
+        return answer_of_building(machines, name, numbers)
+    if name in HOUR_CALLS:
+        return answer_of_hours(machines, name, numbers)
     if name in LONG_RUN_CALLS:
         return answer_of_long_run(machines, name, numbers)
-    return answer_of_line(machines, name, numbers)
+    return answer_of_change(machines, name, numbers)
 
 
 def answers(calls):

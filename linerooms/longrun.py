@@ -3,22 +3,9 @@
 from linerooms.choices import every_choice
 from linerooms.equations import solution
 from linerooms.hours import filling_after
-from linerooms.hours import who_works
+from linerooms.hours import hour_cases
+from linerooms.hours import likely_hours
 from linerooms.ratio import lowest
-from linerooms.ratio import product
-
-
-def weight_of(ups, chances):
-    """How many of an hour's equal cases, 10 for each machine, multiplied, have just these machines up."""
-    return product([chance if up == 1 else 10 - chance for up, chance in zip(ups, chances)])
-
-
-def likely_hours(chances, holds, filling):
-    """All hours that may follow the filling: ups, who works then, and the weight."""
-    hours = []
-    for ups in every_choice([1 for chance in chances]):
-        hours.append((ups, who_works(ups, holds, filling), weight_of(ups, chances)))
-    return hours
 
 
 def move_weights(fillings, hours):
@@ -55,16 +42,23 @@ class LongRun:
     """The long run of machines with such chances and rooms that hold so many."""
 
     def __init__(self, chances, holds):
-        self.cases = product([10 for chance in chances])
+        self.cases = hour_cases(chances)
         self.fillings = every_choice(holds)
         self.hours = [likely_hours(chances, holds, filling) for filling in self.fillings]
         # Shares are whole numbers here: a filling's own one to all of them together.
         self.shares = solution(balance_rows(move_weights(self.fillings, self.hours), self.cases))
 
-    def how_often(self, happens):
-        """The fraction of hours of which happens(filling, ups, works) is true."""
+    def looked_for(self, worth):
+        """What worth(filling, ups, works), a whole number, is in an hour, looked for, as a fraction."""
         above = 0
         for filling, share, its_hours in zip(self.fillings, self.shares, self.hours):
-            weights = [weight for ups, works, weight in its_hours if happens(filling, ups, works)]
-            above = above + share * sum(weights)
+            above = above + share * sum([weight * worth(filling, ups, works) for ups, works, weight in its_hours])
         return lowest(above, sum(self.shares) * self.cases)
+
+    def how_often(self, happens):
+        """The fraction of hours of which happens(filling, ups, works) is true."""
+        return self.looked_for(lambda filling, ups, works: 1 if happens(filling, ups, works) else 0)
+
+    def how_often_out(self):
+        """The fraction of hours in which a piece comes out."""
+        return self.how_often(lambda filling, ups, works: works[-1] == 1)

@@ -1,13 +1,11 @@
-"""begin, machine, drop, chance, room (point 1)."""
+"""begin, machine, drop, chance, room, turn, state (point 1)."""
 
 import unittest
 
-from tests.helper import GREATEST, Refusing, ask, last, line, lines_of
-
-
-# Three machines, two pieces in room 0 and one in room 1.
-SOME = line([3, 5, 7], [3, 2])
-FILLED = SOME + [("hour", [1, 0, 0])] * 3 + [("hour", [0, 1, 0])]
+from tests.helper import (
+    CHANGES, FILLED, GREATEST, SOME, Refusing, all_fillings, ask, come_to, last, line, lines_of, long_run, step,
+    told_as,
+)
 
 
 class Begin(Refusing):
@@ -191,6 +189,85 @@ class Room(Refusing):
         self.refused(greatest, ("room", 3, 8), -2, 4)
         self.refused(greatest, ("room", 3, 9), -2, 4)
         self.refused(greatest, ("room", 0, 9), -22, 4)
+
+
+class Turn(Refusing):
+    def test_answers_how_many_machines(self):
+        for count in (1, 2, 3, 4):
+            self.assertEqual(last(line([5] * count, [1] * (count - 1)), ("turn",)), [count])
+
+    def test_machines_and_rooms_are_in_the_opposite_order(self):
+        self.assertEqual(last(SOME, ("turn",), ("state",)), [3, 7, 5, 3, 2, 3])
+        self.assertEqual(last(line([1, 2, 3, 4], [1, 2, 3]), ("turn",), ("state",)), [4, 4, 3, 2, 1, 3, 2, 1])
+        self.assertEqual(last(line([8, 3], [5]), ("turn",), ("state",)), [2, 3, 8, 5])
+        self.assertEqual(ask(("begin", 4), ("turn",), ("state",)), [[0], [1], [1, 4]])
+
+    def test_every_line_there_may_be(self):
+        for count in (1, 2, 3, 4):
+            chances = [3, 9, 1, 6][:count]
+            for holds in lines_of(count):
+                told = ask(*line(chances, holds), ("turn",), ("state",), ("now",), ("turn",), ("state",))[count:]
+                self.assertEqual(told[1], [count] + chances[::-1] + list(holds[::-1]))
+                self.assertEqual(told[2], [0] * count)
+                self.assertEqual(told[4], [count] + chances + list(holds))
+
+    def test_all_rooms_are_empty(self):
+        for filling in all_fillings([3, 2]):
+            told = ask(*SOME, *come_to(filling), ("now",), ("turn",), ("now",), ("empty",))
+            self.assertEqual(told[-4:], [[sum(filling), *filling], [3], [0, 0, 0], [0]])
+
+    def test_turned_twice_it_is_as_before_but_empty(self):
+        told = ask(*FILLED, ("turn",), ("turn",), ("state",), ("now",))
+        self.assertEqual(told[-2:], [[3, 3, 5, 7, 3, 2], [0, 0, 0]])
+
+    def test_hours_go_by_in_the_new_order(self):
+        for holds in ([3, 2], [1, 4], [2, 1, 3]):
+            count = len(holds) + 1
+            filling = (0,) * (count - 1)
+            hours = [[1] + [0] * (count - 1)] * 5 + [[1, 1] + [0] * (count - 2)] * 5 + [[1] * count] * 3
+            told = ask(*line([5] * count, holds), ("turn",), *[("hour", ups) for ups in hours], ("now",))
+            for ups, one in zip(hours, told[count + 1:]):
+                works, filling = step(ups, holds[::-1], filling)
+                self.assertEqual(one, [works[-1]] + works)
+            self.assertEqual(told[-1], [sum(filling), *filling])
+
+    def test_the_long_run_is_that_of_the_new_order(self):
+        asks = [(name, machine) for machine in range(3) for name in ("rate", "starved", "blocked")]
+        told = ask(*SOME, *asks, ("turn",), *asks)[-9:]
+        self.assertEqual(told, [told_as(one) for three in long_run([7, 5, 3], [2, 3]) for one in three])
+
+    def test_what_is_built_behind_it_stands_at_the_new_end(self):
+        told = ask(*SOME, ("turn",), ("machine", 1, 9), ("state",), ("drop",), ("drop",), ("state",))
+        self.assertEqual(told[3:], [[3], [3], [4, 7, 5, 3, 9, 2, 3, 1], [3], [2], [2, 7, 5, 2]])
+        told = ask(*SOME, ("turn",), ("chance", 0, 1), ("room", 0, 1), ("state",))
+        self.assertEqual(told[3:], [[3], [7], [2], [3, 1, 5, 3, 1, 3]])
+
+
+class State(Refusing):
+    def test_how_many_then_chances_then_rooms(self):
+        self.assertEqual(ask(("begin", 4), ("state",)), [[0], [1, 4]])
+        self.assertEqual(last(line([8, 3], [5]), ("state",)), [2, 8, 3, 5])
+        self.assertEqual(last(SOME, ("state",)), [3, 3, 5, 7, 3, 2])
+        self.assertEqual(last(line([1, 2, 3, 4], [1, 2, 3]), ("state",)), [4, 1, 2, 3, 4, 1, 2, 3])
+
+    def test_every_line_there_may_be(self):
+        for count in (1, 2, 3, 4):
+            chances = [2, 7, 9, 1][:count]
+            for holds in lines_of(count):
+                self.assertEqual(last(line(chances, holds), ("state",)), [count] + chances + list(holds))
+
+    def test_each_change_is_seen(self):
+        for change, chances, holds in CHANGES + ((("begin", 8), [8], []), (("chance", 1, 9), [3, 9, 7], [3, 2])):
+            told = last(FILLED, ("state",), change, ("state",))
+            self.assertEqual(told, [len(chances)] + chances + holds, change)
+
+    def test_what_does_not_change_it(self):
+        for one in (("hour", [1, 1, 1]), ("empty",), ("begin", 0), ("machine", 0, 5), ("chance", 3, 5), ("room", 0, 9)):
+            self.assertEqual(last(FILLED, one, ("state",)), [3, 3, 5, 7, 3, 2], one)
+
+    def test_asking_changes_nothing(self):
+        self.asked_only(FILLED, ("state",), 3)
+        self.asked_only([("begin", 3)], ("state",), 1)
 
 
 if __name__ == "__main__":

@@ -1,19 +1,14 @@
-"""hour, empty (point 2)."""
+"""hour, empty, now, soon (point 2)."""
 
 import random
 import unittest
+from fractions import Fraction
 from itertools import product
 
-from tests.helper import GREATEST, Refusing, ask, last, line, lines_of, step
-
-
-def come_to(filling):
-    """Hours, one machine up in each, that bring empty rooms to the filling: the last room is filled first."""
-    hours = []
-    for room in reversed(range(len(filling))):
-        for machine in list(range(room + 1)) * filling[room]:
-            hours.append(("hour", [int(other == machine) for other in range(len(filling) + 1)]))
-    return hours
+from tests.helper import (
+    FILLED, GREATEST, Refusing, all_fillings, ask, come_to, comes_out, comes_soon, fractions_of, last, line, lines_of,
+    long_shares, one_of_each_form, step, told_as,
+)
 
 
 def drained(count, held):
@@ -44,14 +39,16 @@ class EveryFilling(unittest.TestCase):
         for holds in ((), (1,), (3,), (8,), (1, 1), (3, 2), (1, 1, 1), (2, 1, 2), (8, 2), (2, 2, 2)):
             count = len(holds) + 1
             made = line([5] * count, holds)
-            for filling in product(*[range(hold + 1) for hold in holds]):
+            for filling in all_fillings(holds):
                 calls = made + come_to(filling)
                 self.assertEqual(self.rooms_after(calls, count, max(holds, default=0)), filling)
+                self.assertEqual(last(calls, ("now",)), [sum(filling), *filling])
                 for ups in product((0, 1), repeat=count):
                     works, after = step(ups, holds, filling)
                     hour = ("hour", list(ups))
                     self.assertEqual(last(calls, hour), [works[-1]] + works, (holds, filling, ups))
                     self.assertEqual(self.rooms_after(calls + [hour], count, max(holds, default=0)), after)
+                    self.assertEqual(last(calls, hour, ("now",)), [sum(after), *after])
                     self.assertTrue(all(0 <= lies <= hold for lies, hold in zip(after, holds)))
 
 
@@ -155,6 +152,114 @@ class Empty(unittest.TestCase):
     def test_a_full_greatest_line(self):
         calls = line([5, 5], [8]) + [("hour", [1, 0])] * 9
         self.assertEqual(last(calls, ("empty",)), [8])
+
+
+class Now(Refusing):
+    def test_one_machine_has_no_room(self):
+        self.assertEqual(ask(("begin", 5), ("now",), ("hour", [1]), ("now",)), [[0], [0], [1, 1], [0]])
+
+    def test_all_then_each(self):
+        self.assertEqual(last(FILLED, ("now",)), [3, 2, 1])
+        self.assertEqual(last(line([5, 5], [8]) + come_to((8,)), ("now",)), [8, 8])
+        self.assertEqual(last(line([5] * 4, [2, 2, 2]) + come_to((0, 1, 2)), ("now",)), [3, 0, 1, 2])
+
+    def test_each_filling_of_each_line(self):
+        for count in (2, 3, 4):
+            for holds in lines_of(count):
+                for filling in all_fillings(holds):
+                    told = last(line([5] * count, holds) + come_to(filling), ("now",))
+                    self.assertEqual(told, [sum(filling), *filling])
+
+    def test_what_is_left_behind_each_change(self):
+        changes = (
+            (("begin", 8), [0]),
+            (("machine", 1, 6), [3, 2, 1, 0]),
+            (("drop",), [2, 2]),
+            (("chance", 1, 9), [3, 2, 1]),
+            (("room", 0, 3), [0, 0, 0]),
+            (("room", 1, 1), [0, 0, 0]),
+            (("turn",), [0, 0, 0]),
+            (("empty",), [0, 0, 0]),
+            (("hour", [0, 0, 0]), [3, 2, 1]),
+            (("hour", [1, 1, 1]), [3, 2, 1]),
+            (("hour", [1, 0, 0]), [4, 3, 1]),
+            (("hour", [0, 1, 0]), [3, 1, 2]),
+            (("hour", [0, 0, 1]), [2, 2, 0]),
+        )
+        for change, expected in changes:
+            self.assertEqual(last(FILLED, ("now",), change, ("now",)), expected, change)
+
+    def test_asking_changes_nothing(self):
+        self.asked_only(FILLED, ("now",), 3)
+        self.asked_only([("begin", 3)], ("now",), 1)
+
+
+class Soon(Refusing):
+    def test_no_hour_brings_nothing(self):
+        for calls in ([("begin", 9)], FILLED, line([9, 9], [1]) + come_to((1,))):
+            self.assertEqual(last(calls, ("soon", 0)), [0, 0, 1])
+
+    def test_one_machine(self):
+        for chance in range(1, 10):
+            for hours in range(4):
+                told = last([("begin", chance)], ("soon", hours))
+                self.assertEqual(told, told_as(Fraction(chance * hours, 10)))
+
+    def test_two_machines_by_hand(self):
+        empty = line([5, 5], [1])
+        full = empty + come_to((1,))
+        self.assertEqual(ask(*empty, *[("soon", hours) for hours in range(4)])[2:], [
+            [0, 0, 1], [0, 0, 1], [0, 1, 4], [0, 9, 16],
+        ])
+        # Of the full room's four cases two bring a piece, and one of these leaves the room empty.
+        self.assertEqual(ask(*full, *[("soon", hours) for hours in range(4)])[3:], [
+            [0, 0, 1], [0, 1, 2], [0, 7, 8], [0, 39, 32],
+        ])
+
+    def test_it_counts_from_the_filling_that_is_there_now(self):
+        for chances, holds in (([3, 8], [4]), ([3, 5, 7], [3, 2]), ([9, 1, 4], [1, 1]), ([2, 9, 5, 7], [1, 2, 1])):
+            for filling in all_fillings(holds):
+                told = ask(*line(chances, holds), *come_to(filling), *[("soon", hours) for hours in range(4)])[-4:]
+                expected = [told_as(comes_soon(chances, holds, filling, hours)) for hours in range(4)]
+                self.assertEqual(told, expected, (chances, holds, filling))
+
+    def test_every_line_there_may_be(self):
+        chosen = random.Random(4)
+        for chances, holds in one_of_each_form(10):
+            filling = chosen.choice(all_fillings(holds))
+            told = ask(*line(chances, holds), *come_to(filling), ("soon", 1), ("soon", 2), ("soon", 3))[-3:]
+            expected = [told_as(comes_soon(chances, holds, filling, hours)) for hours in (1, 2, 3)]
+            self.assertEqual(told, expected, (chances, holds, filling))
+
+    def test_the_greatest_line_full(self):
+        for chances, holds in (([9, 1, 9, 1], [2, 2, 2]), ([1, 9, 1], [8, 2]), ([9, 9], [8])):
+            told = last(line(chances, holds) + come_to(holds), ("soon", 3))
+            self.assertEqual(told, told_as(comes_soon(chances, holds, holds, 3)))
+
+    def test_by_the_long_runs_fillings_each_hour_brings_as_many(self):
+        for chances, holds in (([3, 8], [2]), ([6, 2, 7], [2, 1])):
+            for hours in range(4):
+                brought = Fraction(0)
+                for filling, share in long_shares(chances, holds).items():
+                    told = last(line(chances, holds) + come_to(filling), ("soon", hours))
+                    brought += share * fractions_of(told)[0]
+                self.assertEqual(brought, hours * comes_out(chances, holds))
+
+    def test_each_change_is_seen(self):
+        told = ask(*FILLED, ("soon", 3), ("chance", 2, 1), ("soon", 3), ("hour", [0, 0, 1]), ("soon", 3))
+        self.assertEqual(told[-5], told_as(comes_soon([3, 5, 7], [3, 2], [2, 1], 3)))
+        self.assertEqual(told[-3], told_as(comes_soon([3, 5, 1], [3, 2], [2, 1], 3)))
+        self.assertEqual(told[-1], told_as(comes_soon([3, 5, 1], [3, 2], [2, 0], 3)))
+
+    def test_out_of_range(self):
+        for hours in (4, 5, 27, GREATEST):
+            self.refused(FILLED, ("soon", hours), -22, 3)
+            self.refused([("begin", 3)], ("soon", hours), -22, 1)
+
+    def test_asking_changes_nothing(self):
+        for hours in range(4):
+            self.asked_only(FILLED, ("soon", hours), 3)
+            self.asked_only([("begin", 3)], ("soon", hours), 1)
 
 
 if __name__ == "__main__":

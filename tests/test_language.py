@@ -227,6 +227,85 @@ class Language(unittest.TestCase):
             if isinstance(node.func, ast.Attribute) and node.func.attr in ("items", "keys", "values"):
                 self.assertIn(id(node), walked, where)
 
+    def test_values_of_tops_and_defaults(self):
+        for name, tree in self.trees.items():
+            for node in tree.body:
+                if isinstance(node, ast.Assign) and isinstance(node.value, (ast.List, ast.Dict)):
+                    inner = [one for one in ast.walk(node.value) if isinstance(one, (ast.List, ast.Dict))]
+                    self.assertEqual(len(inner), 1, f"{name}:{node.lineno}")
+        for where, node in self.nodes(ast.arguments):
+            for one in node.defaults:
+                self.assertTrue(is_plain(one, []), where)
+
+    def test_lambdas_and_texts(self):
+        seen = []
+        for name, tree in self.trees.items():
+            for node in ast.walk(tree):
+                if isinstance(node, ast.Lambda):
+                    seen.append((name, node.lineno, ast.unparse(node.args)))
+        self.assertEqual(len(seen), len(set(seen)))
+        for where, node in self.nodes(ast.FormattedValue):
+            self.assertIsInstance(node.value, ast.Name, where)
+            self.assertIn(node.conversion, (-1, ord("r")), where)
+            self.assertIsNone(node.format_spec, where)
+        for name, text in self.texts.items():
+            self.assertIsNone(re.search(r"\\[^nt\\'\"]", text), name)
+
+    def test_classes_are_called_or_named_as_bases_and_errors(self):
+        classes = {node.name for where, node in self.nodes(ast.ClassDef)}
+        allowed = {id(node.func) for where, node in self.nodes(ast.Call)}
+        allowed |= {id(one) for where, node in self.nodes(ast.ClassDef) for one in node.bases}
+        allowed |= {id(node.type) for where, node in self.nodes(ast.ExceptHandler)}
+        for where, node in self.nodes(ast.Call):
+            if isinstance(node.func, ast.Name) and node.func.id == "isinstance":
+                allowed.add(id(node.args[1]))
+        for where, node in self.nodes(ast.Name):
+            if node.id in classes:
+                self.assertIn(id(node), allowed, where)
+
+    def test_special_methods(self):
+        for where, node in self.nodes(ast.ClassDef):
+            for one in node.body:
+                if isinstance(one, ast.FunctionDef) and one.name.startswith("__"):
+                    self.assertEqual(one.name, "__init__", where)
+                    self.assertFalse([sub for sub in ast.walk(one) if isinstance(sub, ast.Return)], where)
+
+    def test_keywords(self):
+        may = {"sorted": ("key", "reverse"), "min": ("key", "default"), "max": ("key", "default"), "sum": ("start",),
+               "enumerate": ("start",), "zip": ("strict",)}
+        for where, node in self.nodes(ast.Call):
+            name = node.func.id if isinstance(node.func, ast.Name) else node.func.attr
+            if name in OWN_FUNCTIONS + OWN_ERRORS + OWN_METHODS:
+                for one in node.keywords:
+                    self.assertIn(one.arg, may.get(name, ()), where)
+
+    def test_sets_are_not_kept(self):
+        # A narrower rule than the language's own: the package has no need of a set at all.
+        self.assertEqual([where for where, node in self.nodes(ast.Set)], [])
+        self.assertEqual([where for where, node in self.nodes(ast.Name) if node.id in ("set", "frozenset")], [])
+
+    def test_errors_are_taken_by_name(self):
+        for where, node in self.nodes(ast.ExceptHandler):
+            self.assertIsNotNone(node.type, where)
+            self.assertNotIn(ast.unparse(node.type), ("Exception", "TypeError"), where)
+
+    def test_what_a_loop_walks_is_not_changed_in_it(self):
+        changing = ("append", "clear", "extend", "insert", "pop", "remove", "reverse", "setdefault", "update")
+        for where, loop in self.nodes(ast.For):
+            walked = {ast.unparse(node) for node in ast.walk(loop.iter) if isinstance(node, (ast.Name, ast.Attribute))}
+            if isinstance(loop.iter, ast.Call) and ast.unparse(loop.iter.func) in ("range", "list", "sorted"):
+                continue
+            for node in ast.walk(ast.Module(loop.body, [])):
+                if isinstance(node, ast.Subscript) and isinstance(node.ctx, ast.Store):
+                    self.assertNotIn(ast.unparse(node.value), walked, where)
+                if isinstance(node, ast.Call) and isinstance(node.func, ast.Attribute) and node.func.attr in changing:
+                    self.assertNotIn(ast.unparse(node.func.value), walked, where)
+
+    def test_powers(self):
+        for where, node in self.nodes(ast.BinOp):
+            if isinstance(node.op, ast.Pow):
+                self.assertIn(node.right.value, range(65), where)
+
 
 if __name__ == "__main__":
     unittest.main()
